@@ -1,0 +1,56 @@
+package amend
+
+import (
+	"amend/api"
+	"amend/text"
+	"amend/value"
+)
+
+// session is what is kept from one step of a script to the next.
+type session struct {
+	config   api.Config
+	document *value.Value // nil, if there is none
+}
+
+func (s *session) step(o api.Op) api.Answer {
+	switch {
+	case !isConfig(s.config):
+		return failed(api.ErrConfig)
+	case o.Kind < api.Load || o.Kind > api.MergeDiff:
+		return failed(api.ErrKind)
+	case o.Kind == api.Load:
+		return s.load(o.S)
+	case s.document == nil:
+		return failed(api.ErrNone)
+	}
+	return s.ask(o)
+}
+
+// ask answers a step that needs a document.
+func (s *session) ask(o api.Op) api.Answer {
+	switch o.Kind {
+	case api.Dump:
+		return api.Answer{Text: text.Canonical(s.document)}
+	}
+	// The other steps are not built yet.
+	return failed(api.ErrKind)
+}
+
+func (s *session) load(source string) api.Answer {
+	v, code := text.Read(source, s.config.Depth, s.config.Exponent)
+	if code != api.OK {
+		return failed(code)
+	}
+	s.document = v
+	return api.Answer{}
+}
+
+func failed(code api.Errno) api.Answer { return api.Answer{Code: code} }
+
+func isConfig(c api.Config) bool {
+	return within(c.Depth, 1, api.MaxDepth) &&
+		within(c.Exponent, 0, api.MaxExponent) &&
+		within(c.Cells, 0, api.MaxCells)
+}
+
+func within(n, least, most int) bool { return least <= n && n <= most }
