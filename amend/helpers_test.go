@@ -47,3 +47,13 @@ func refuses(t *testing.T, c api.Config, s string, e api.Errno) {
 
 // nested is a text of n arrays, one in the other.
 func nested(n int) string { return strings.Repeat("[", n) + strings.Repeat("]", n) }
+
+// canonical is the canonical text of a text's value.
+func canonical(t *testing.T, s string) string {
+	t.Helper()
+	a := amend.Run(widest, []api.Op{load(s), dump})
+	if a[1].Code != api.OK {
+		t.Fatalf("%.60q: %+v", s, a)
+	}
+	return a[1].Text
+}

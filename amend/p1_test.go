@@ -36,6 +36,7 @@ func TestP1OddInputs(t *testing.T) {
 		strings.Repeat("\"", 2000), strings.Repeat(`\`, 2000), `"` + strings.Repeat(`\u`, 900), strings.Repeat("-", 2000),
 		strings.Repeat("9", 2000), "1e" + strings.Repeat("9", 1998), "1e-" + strings.Repeat("9", 1997),
 		strings.Repeat("x", 1<<20), nested(1000), `"\ud800\u`, `"\ud800\`, `"\`, `"\u`, `{"a"`, "-", "1.", "1e", "1e-",
+		strings.Repeat("/", 5000), "/a/" + strings.Repeat("9", 5000), "/a/0" + strings.Repeat("0", 5000), "/a/-1", "/a/-9223372036854775808", "/~", "/\xff", strings.Repeat("/a/0", 500),
 	}
 	kinds := []int{math.MinInt, -1, 0, 1, 2, 3, 4, 5, 6, 7, 8, 9, 10, math.MaxInt}
 	bounds := []int{math.MinInt, -1, 0, 1, 20, 21, 400, 2000, math.MaxInt}

@@ -15,7 +15,8 @@ import (
 func variety() []api.Op {
 	return []api.Op{
 		dump, load(`{"b":[1,2.50,{"c":"\u0041"}],"a":null,"d":{},"e":[],"f":1e9,"g":-0}`), dump, load("[1"), dump,
-		{Kind: 77, S: "1", T: "2"}, load(`{"a":1,"a":2}`), load(nested(21)), dump, load("1e401"), load(`"x"`), dump, dump,
+		{Kind: 77, S: "1", T: "2"}, load(`{"a":1,"a":2}`), load(nested(21)), dump, get("/b"), get("/b/2/c"), get("/b/x"), get("/~"), get("/e/0"),
+		test("/b", `[1,2.5,{"c":"A"}]`), test("", "1"), test("/d", "{"), test("d", "{}"), load("1e401"), load(`"x"`), get(""), dump, dump,
 	}
 }
 
@@ -71,12 +72,14 @@ func TestP2NewMemory(t *testing.T) {
 		t.Errorf("two runs share their answers: %+v", second)
 	}
 	for _, s := range []string{`"abcdefgh"`, "12345678", "true", "null"} {
-		got := amend.Run(widest, []api.Op{load(s), dump})[1].Text
-		if got != s {
-			t.Fatalf("got %q, want %q", got, s)
-		}
-		if unsafe.StringData(got) == unsafe.StringData(s) {
-			t.Errorf("%q: the answer is the argument itself", s)
+		for _, ask := range []api.Op{dump, get("")} {
+			got := amend.Run(widest, []api.Op{load(s), ask})[1].Text
+			if got != s {
+				t.Fatalf("got %q, want %q", got, s)
+			}
+			if unsafe.StringData(got) == unsafe.StringData(s) {
+				t.Errorf("%q: the answer is the argument itself", s)
+			}
 		}
 	}
 }

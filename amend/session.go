@@ -2,6 +2,7 @@ package amend
 
 import (
 	"amend/api"
+	"amend/pointer"
 	"amend/text"
 	"amend/value"
 )
@@ -31,17 +32,57 @@ func (s *session) ask(o api.Op) api.Answer {
 	switch o.Kind {
 	case api.Dump:
 		return api.Answer{Text: text.Canonical(s.document)}
+	case api.Get:
+		return s.get(o.S)
+	case api.Test:
+		return s.test(o.S, o.T)
 	}
 	// The other steps are not built yet.
 	return failed(api.ErrKind)
 }
 
+// read reads a text to Depth.
+func (s *session) read(source string) (*value.Value, api.Errno) {
+	return text.Read(source, s.config.Depth, s.config.Exponent)
+}
+
 func (s *session) load(source string) api.Answer {
-	v, code := text.Read(source, s.config.Depth, s.config.Exponent)
+	v, code := s.read(source)
 	if code != api.OK {
 		return failed(code)
 	}
 	s.document = v
+	return api.Answer{}
+}
+
+func (s *session) get(path string) api.Answer {
+	p, ok := pointer.Read(path)
+	if !ok {
+		return failed(api.ErrPointer)
+	}
+	v, code := p.Find(s.document)
+	if code != api.OK {
+		return failed(code)
+	}
+	return api.Answer{Text: text.Canonical(v)}
+}
+
+func (s *session) test(path, source string) api.Answer {
+	p, ok := pointer.Read(path)
+	if !ok {
+		return failed(api.ErrPointer)
+	}
+	want, code := s.read(source)
+	if code != api.OK {
+		return failed(code)
+	}
+	v, code := p.Find(s.document)
+	if code != api.OK {
+		return failed(code)
+	}
+	if !value.Same(v, want) {
+		return failed(api.ErrTest)
+	}
 	return api.Answer{}
 }
 
