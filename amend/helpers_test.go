@@ -45,6 +45,34 @@ func refuses(t *testing.T, c api.Config, s string, e api.Errno) {
 	expect(t, c, []api.Op{load(s), dump}, refused(e), refused(api.ErrNone))
 }
 
+func patch(s string) api.Op { return api.Op{Kind: api.Patch, S: s} }
+
+var invert = api.Op{Kind: api.Invert}
+
+// refusedAt is the answer to a patch with an error in one of its operations.
+func refusedAt(e api.Errno, at int) api.Answer { return api.Answer{Code: e, At: at} }
+
+// patches tells what a patch makes of a document, and that what INVERT tells
+// behind it leads back, and then forth again.
+func patches(t *testing.T, c api.Config, document, p, want string) {
+	t.Helper()
+	before, want := canonical(t, document), canonical(t, want)
+	expect(t, c, []api.Op{patch(p), load(document), patch(p), dump}, refused(api.ErrNone), told(""), told(""), told(want))
+	back := amend.Run(c, []api.Op{load(document), patch(p), invert})[2].Text
+	forth := amend.Run(c, []api.Op{load(document), patch(p), patch(back), invert})[3].Text
+	expect(t, c,
+		[]api.Op{load(document), patch(p), invert, dump, patch(back), dump, invert, patch(forth), dump},
+		told(""), told(""), told(back), told(want), told(""), told(before), told(forth), told(""), told(want))
+}
+
+// patchRefused tells that a patch is refused, and the document stays.
+func patchRefused(t *testing.T, c api.Config, document, p string, want api.Answer) {
+	t.Helper()
+	expect(t, c,
+		[]api.Op{patch(p), load(document), patch(p), dump, invert, patch("[]"), patch(p), dump, invert},
+		refused(api.ErrNone), told(""), want, told(canonical(t, document)), refused(api.ErrNone), told(""), want, told(canonical(t, document)), told("[]"))
+}
+
 // nested is a text of n arrays, one in the other.
 func nested(n int) string { return strings.Repeat("[", n) + strings.Repeat("]", n) }
 

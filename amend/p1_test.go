@@ -37,6 +37,10 @@ func TestP1OddInputs(t *testing.T) {
 		strings.Repeat("9", 2000), "1e" + strings.Repeat("9", 1998), "1e-" + strings.Repeat("9", 1997),
 		strings.Repeat("x", 1<<20), nested(1000), `"\ud800\u`, `"\ud800\`, `"\`, `"\u`, `{"a"`, "-", "1.", "1e", "1e-",
 		strings.Repeat("/", 5000), "/a/" + strings.Repeat("9", 5000), "/a/0" + strings.Repeat("0", 5000), "/a/-1", "/a/-9223372036854775808", "/~", "/\xff", strings.Repeat("/a/0", 500),
+		"[]", "[[]]", "[{}]", "[null]", `[{"op":"add","path":"/a/-","value":{"a":[]}}]`, `[{"op":"remove","path":""}]`, `[{"op":"move","from":"","path":"/a"}]`, `[{"op":"copy","from":"/a/9","path":"/a/-"}]`,
+		`[{"op":"add","path":"/a/9223372036854775808","value":1}]`, `[{"op":"add","path":"/a/-1","value":1}]`, `[{"op":"remove","path":"/a/-"}]`, `[{"op":null,"path":null,"from":null,"value":null}]`,
+		"[" + strings.Repeat(`{"op":"copy","from":"","path":"/a/-"},`, 50) + `{"op":"test","path":"","value":1}]`,
+		"[" + strings.Repeat(`{"op":"move","from":"/a/0","path":"/a"},{"op":"copy","from":"","path":""},`, 20) + `{"op":"remove","path":"/a"}]`,
 	}
 	kinds := []int{math.MinInt, -1, 0, 1, 2, 3, 4, 5, 6, 7, 8, 9, 10, math.MaxInt}
 	bounds := []int{math.MinInt, -1, 0, 1, 20, 21, 400, 2000, math.MaxInt}

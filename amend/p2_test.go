@@ -16,7 +16,9 @@ func variety() []api.Op {
 	return []api.Op{
 		dump, load(`{"b":[1,2.50,{"c":"\u0041"}],"a":null,"d":{},"e":[],"f":1e9,"g":-0}`), dump, load("[1"), dump,
 		{Kind: 77, S: "1", T: "2"}, load(`{"a":1,"a":2}`), load(nested(21)), dump, get("/b"), get("/b/2/c"), get("/b/x"), get("/~"), get("/e/0"),
-		test("/b", `[1,2.5,{"c":"A"}]`), test("", "1"), test("/d", "{"), test("d", "{}"), load("1e401"), load(`"x"`), get(""), dump, dump,
+		test("/b", `[1,2.5,{"c":"A"}]`), test("", "1"), test("/d", "{"), test("d", "{}"), load("1e401"), invert,
+		patch(`[{"op":"add","path":"/e/-","value":{"z":1,"y":2,"x":[3]}},{"op":"move","from":"/b","path":"/d/b"},{"op":"copy","from":"/e","path":"/h"},{"op":"remove","path":"/a"}]`), dump, invert,
+		patch(`[{"op":"replace","path":"/h","value":0},{"op":"test","path":"/h","value":1}]`), patch(`[{"op":"add"}]`), patch("[{}"), dump, invert, patch("[]"), invert, load(`"x"`), get(""), dump, invert, dump,
 	}
 }
 
@@ -46,12 +48,12 @@ func TestP2NothingKeptBetweenRuns(t *testing.T) {
 
 func TestP2UnnamedFields(t *testing.T) {
 	expect(t, widest,
-		[]api.Op{{Kind: api.Load, S: "1", T: "\xff"}, {Kind: api.Dump, S: strings.Repeat("x", 9000), T: "["}},
-		told(""), told("1"))
+		[]api.Op{{Kind: api.Load, S: "1", T: "\xff"}, {Kind: api.Dump, S: strings.Repeat("x", 9000), T: "["}, {Kind: api.Patch, S: "[]", T: "["}, {Kind: api.Invert, S: "[", T: "\xff"}},
+		told(""), told("1"), told(""), told("[]"))
 }
 
 func TestP2NothingWrittenInto(t *testing.T) {
-	room := make([]api.Op, 0, 40)
+	room := make([]api.Op, 0, len(variety())+20)
 	for i := range cap(room) {
 		room = append(room, api.Op{Kind: 1000 + i, S: "spare", T: "room"})
 	}

@@ -2,6 +2,8 @@ package amend
 
 import (
 	"amend/api"
+	"amend/document"
+	"amend/patch"
 	"amend/pointer"
 	"amend/text"
 	"amend/value"
@@ -10,8 +12,12 @@ import (
 // session is what is kept from one step of a script to the next.
 type session struct {
 	config   api.Config
-	document *value.Value // nil, if there is none
+	document *document.Document // nil, if there is none
 }
+
+// patchLevels is how much deeper a patch is than the values that it puts in:
+// an array, and an object for each operation.
+const patchLevels = 2
 
 func (s *session) step(o api.Op) api.Answer {
 	switch {
@@ -31,11 +37,15 @@ func (s *session) step(o api.Op) api.Answer {
 func (s *session) ask(o api.Op) api.Answer {
 	switch o.Kind {
 	case api.Dump:
-		return api.Answer{Text: text.Canonical(s.document)}
+		return api.Answer{Text: text.Canonical(s.document.Whole())}
 	case api.Get:
 		return s.get(o.S)
 	case api.Test:
 		return s.test(o.S, o.T)
+	case api.Patch:
+		return s.patch(o.S)
+	case api.Invert:
+		return s.invert()
 	}
 	// The other steps are not built yet.
 	return failed(api.ErrKind)
@@ -51,7 +61,7 @@ func (s *session) load(source string) api.Answer {
 	if code != api.OK {
 		return failed(code)
 	}
-	s.document = v
+	s.document = document.New(v)
 	return api.Answer{}
 }
 
@@ -60,7 +70,7 @@ func (s *session) get(path string) api.Answer {
 	if !ok {
 		return failed(api.ErrPointer)
 	}
-	v, code := p.Find(s.document)
+	v, code := p.Find(s.document.Whole())
 	if code != api.OK {
 		return failed(code)
 	}
@@ -76,7 +86,7 @@ func (s *session) test(path, source string) api.Answer {
 	if code != api.OK {
 		return failed(code)
 	}
-	v, code := p.Find(s.document)
+	v, code := p.Find(s.document.Whole())
 	if code != api.OK {
 		return failed(code)
 	}
@@ -84,6 +94,27 @@ func (s *session) test(path, source string) api.Answer {
 		return failed(api.ErrTest)
 	}
 	return api.Answer{}
+}
+
+func (s *session) patch(source string) api.Answer {
+	v, code := text.Read(source, s.config.Depth+patchLevels, s.config.Exponent)
+	if code != api.OK {
+		return failed(code)
+	}
+	p, at, ok := patch.Read(v)
+	if !ok {
+		return api.Answer{Code: api.ErrPatch, At: at}
+	}
+	at, code = s.document.Patch(p, s.config.Depth)
+	return api.Answer{Code: code, At: at}
+}
+
+func (s *session) invert() api.Answer {
+	p, ok := s.document.Inverse()
+	if !ok {
+		return failed(api.ErrNone)
+	}
+	return api.Answer{Text: patch.Text(p)}
 }
 
 func failed(code api.Errno) api.Answer { return api.Answer{Code: code} }

@@ -72,6 +72,28 @@ func escape(s string) (stands byte, size int) {
 	return 0, 0
 }
 
+// String tells the text of the pointer.
+func (p Pointer) String() string {
+	var b strings.Builder
+	for _, token := range p {
+		b.WriteByte('/')
+		for _, c := range []byte(token) {
+			writeEscaped(&b, c)
+		}
+	}
+	return b.String()
+}
+
+func writeEscaped(b *strings.Builder, c byte) {
+	for _, e := range escapes {
+		if e.stands == c {
+			b.WriteString(e.told)
+			return
+		}
+	}
+	b.WriteByte(c)
+}
+
 // Find goes from the whole to what p points to.
 func (p Pointer) Find(whole *value.Value) (*value.Value, api.Errno) {
 	v := whole

@@ -54,8 +54,12 @@ func TestReadBackWhatIsTold(t *testing.T) {
 			want = append(want, token)
 			s.WriteString("/" + told.Replace(token))
 		}
-		if got, ok := pointer.Read(s.String()); !ok || !slices.Equal(got, want) {
+		got, ok := pointer.Read(s.String())
+		if !ok || !slices.Equal(got, want) {
 			t.Fatalf("%q: got %q, %v, want %q", s.String(), got, ok, want)
+		}
+		if again := got.String(); again != s.String() {
+			t.Fatalf("%q: told again as %q", s.String(), again)
 		}
 	}
 }
