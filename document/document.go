@@ -29,7 +29,7 @@ func New(whole *value.Value) *Document {
 func (d *Document) Whole() *value.Value { return d.root.Elements[0] }
 
 // Inverse is the patch that leads to what the document was ahead of its last
-// amendment, if there was one. It is to be read alone.
+// amendment, if there was one. Who asks must not change it.
 func (d *Document) Inverse() (p []patch.Operation, ok bool) { return d.inverse, d.changed }
 
 // Patch does a patch, all of it or, with an error, nothing; at is the number
