@@ -56,12 +56,18 @@ func refusedAt(e api.Errno, at int) api.Answer { return api.Answer{Code: e, At: 
 // behind it leads back, and then forth again.
 func patches(t *testing.T, c api.Config, document, p, want string) {
 	t.Helper()
+	amends(t, c, document, patch(p), want)
+}
+
+// amends tells that of a PATCH or a MERGE.
+func amends(t *testing.T, c api.Config, document string, step api.Op, want string) {
+	t.Helper()
 	before, want := canonical(t, document), canonical(t, want)
-	expect(t, c, []api.Op{patch(p), load(document), patch(p), dump}, refused(api.ErrNone), told(""), told(""), told(want))
-	back := amend.Run(c, []api.Op{load(document), patch(p), invert})[2].Text
-	forth := amend.Run(c, []api.Op{load(document), patch(p), patch(back), invert})[3].Text
+	expect(t, c, []api.Op{step, load(document), step, dump}, refused(api.ErrNone), told(""), told(""), told(want))
+	back := amend.Run(c, []api.Op{load(document), step, invert})[2].Text
+	forth := amend.Run(c, []api.Op{load(document), step, patch(back), invert})[3].Text
 	expect(t, c,
-		[]api.Op{load(document), patch(p), invert, dump, patch(back), dump, invert, patch(forth), dump},
+		[]api.Op{load(document), step, invert, dump, patch(back), dump, invert, patch(forth), dump},
 		told(""), told(""), told(back), told(want), told(""), told(before), told(forth), told(""), told(want))
 }
 

@@ -2,6 +2,7 @@ package amend
 
 import (
 	"amend/api"
+	"amend/diff"
 	"amend/document"
 	"amend/patch"
 	"amend/pointer"
@@ -26,7 +27,7 @@ func (s *session) step(o api.Op) api.Answer {
 	case o.Kind < api.Load || o.Kind > api.MergeDiff:
 		return failed(api.ErrKind)
 	case o.Kind == api.Load:
-		return s.load(o.S)
+		return s.reading(o.S, s.load)
 	case s.document == nil:
 		return failed(api.ErrNone)
 	}
@@ -44,11 +45,15 @@ func (s *session) ask(o api.Op) api.Answer {
 		return s.test(o.S, o.T)
 	case api.Patch:
 		return s.patch(o.S)
+	case api.Merge:
+		return s.reading(o.S, s.merge)
 	case api.Invert:
 		return s.invert()
+	case api.Diff:
+		return s.reading(o.S, s.diff)
 	}
-	// The other steps are not built yet.
-	return failed(api.ErrKind)
+	// Of those that step lets come here it is the only one left.
+	return s.reading(o.S, s.mergeDiff)
 }
 
 // read reads a text to Depth.
@@ -56,11 +61,17 @@ func (s *session) read(source string) (*value.Value, api.Errno) {
 	return text.Read(source, s.config.Depth, s.config.Exponent)
 }
 
-func (s *session) load(source string) api.Answer {
+// reading reads a text to Depth, and answers with what is answered to its
+// value.
+func (s *session) reading(source string, answer func(*value.Value) api.Answer) api.Answer {
 	v, code := s.read(source)
 	if code != api.OK {
 		return failed(code)
 	}
+	return answer(v)
+}
+
+func (s *session) load(v *value.Value) api.Answer {
 	s.document = document.New(v)
 	return api.Answer{}
 }
@@ -115,6 +126,22 @@ func (s *session) invert() api.Answer {
 		return failed(api.ErrNone)
 	}
 	return api.Answer{Text: patch.Text(p)}
+}
+
+func (s *session) merge(p *value.Value) api.Answer {
+	return api.Answer{Code: s.document.Merge(p)}
+}
+
+func (s *session) diff(to *value.Value) api.Answer {
+	return api.Answer{Text: patch.Text(diff.Patch(s.document.Whole(), to, s.config.Cells))}
+}
+
+func (s *session) mergeDiff(to *value.Value) api.Answer {
+	p, ok := diff.MergePatch(s.document.Whole(), to)
+	if !ok {
+		return failed(api.ErrNever)
+	}
+	return api.Answer{Text: text.Canonical(p)}
 }
 
 func failed(code api.Errno) api.Answer { return api.Answer{Code: code} }

@@ -54,8 +54,10 @@ func (d *Document) measure(depth int) api.Errno {
 	switch {
 	case d.Whole().Depth() > depth:
 		return api.ErrDepth
-	case len(text.Canonical(d.Whole())) > api.MaxWhole:
+	case d.isLong():
 		return api.ErrLong
 	}
 	return api.OK
 }
+
+func (d *Document) isLong() bool { return len(text.Canonical(d.Whole())) > api.MaxWhole }

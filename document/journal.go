@@ -64,3 +64,12 @@ func (d *Document) remove(at place) {
 		func() { at.insert(old) },
 		patch.Operation{Kind: patch.Add, Path: at.path, Value: old})
 }
+
+// put lets v stand there, whether something else does or not.
+func (d *Document) put(at place, v *value.Value) {
+	if at.get() != nil {
+		d.swap(at, v)
+		return
+	}
+	d.insert(at, v)
+}

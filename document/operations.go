@@ -89,7 +89,7 @@ func (d *Document) doTest(o patch.Operation) api.Errno {
 func (d *Document) add(p pointer.Pointer, v *value.Value) api.Errno {
 	v = v.Clone()
 	if len(p) == 0 {
-		d.swap(place{in: d.root}, v)
+		d.put(place{in: d.root}, v)
 		return api.OK
 	}
 	in, token, code := d.parent(p)
@@ -98,7 +98,7 @@ func (d *Document) add(p pointer.Pointer, v *value.Value) api.Errno {
 	}
 	switch in.Kind {
 	case value.Object:
-		d.addMember(place{path: p, in: in, key: token}, v)
+		d.put(place{path: p, in: in, key: token}, v)
 		return api.OK
 	case value.Array:
 		i, code := slot(in, token)
@@ -108,12 +108,4 @@ func (d *Document) add(p pointer.Pointer, v *value.Value) api.Errno {
 		return code
 	}
 	return api.ErrTarget
-}
-
-func (d *Document) addMember(at place, v *value.Value) {
-	if at.get() != nil {
-		d.swap(at, v)
-		return
-	}
-	d.insert(at, v)
 }

@@ -2,6 +2,7 @@
 package pointer
 
 import (
+	"slices"
 	"strconv"
 	"strings"
 	"unicode/utf8"
@@ -92,6 +93,12 @@ func writeEscaped(b *strings.Builder, c byte) {
 		}
 	}
 	b.WriteByte(c)
+}
+
+// To is the pointer with one more token.
+func (p Pointer) To(token string) Pointer {
+	// Of the pointers that go on from p each has room of its own.
+	return append(slices.Clip(p), token)
 }
 
 // Find goes from the whole to what p points to.
