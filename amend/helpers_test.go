@@ -79,6 +79,21 @@ func patchRefused(t *testing.T, c api.Config, document, p string, want api.Answe
 		refused(api.ErrNone), told(""), want, told(canonical(t, document)), refused(api.ErrNone), told(""), want, told(canonical(t, document)), told("[]"))
 }
 
+// narrow is a configuration to which a text is easily too deep, or has a number
+// out of reach.
+var narrow = api.Config{Depth: 2, Exponent: 2}
+
+// wrongTexts are texts that are not to be read with it, and why.
+func wrongTexts() map[string]api.Errno {
+	return map[string]api.Errno{
+		strings.Repeat(" ", api.MaxText) + "1": api.ErrLong, strings.Repeat("x", api.MaxText+1): api.ErrLong,
+		"": api.ErrText, "{": api.ErrText, "{a:1}": api.ErrText, `{"a":1,}`: api.ErrText, "01": api.ErrText, "[1 2]": api.ErrText, `"\ud800"`: api.ErrText,
+		`{"a":1,"\u0061":[[1e3]]}`: api.ErrTwice, `{"a":{"b":1,"b":2}}`: api.ErrTwice,
+		`{"a":[[1e3]]}`: api.ErrDepth, `{"a":{"b":1}}`: api.ErrDepth, `{"a":{"b":null}}`: api.ErrDepth, nested(3): api.ErrDepth,
+		`{"a":1e3}`: api.ErrNumber, "0.001": api.ErrNumber, "[0e9,1e-3]": api.ErrNumber,
+	}
+}
+
 // nested is a text of n arrays, one in the other.
 func nested(n int) string { return strings.Repeat("[", n) + strings.Repeat("]", n) }
 

@@ -120,6 +120,77 @@ func TestP6LongWay(t *testing.T) {
 		told(""), told(""), told(""), told(`["`+long+`"]`), refused(api.ErrLong))
 }
 
+// Here amends holds what INVERT tells behind a MERGE against what was.
+func TestP6BehindMerge(t *testing.T) {
+	for _, x := range []struct{ document, p, want string }{
+		{`{"a":1,"b":{"c":2}}`, `{"a":null,"b":{"d":3},"e":{"f":null}}`, `{"b":{"c":2,"d":3},"e":{}}`},
+		{"1", "2", "2"}, {"[1]", `{"a":1}`, `{"a":1}`}, {`{"a":1}`, "null", "null"}, {`{"a":[1,{"b":null}]}`, "7", "7"},
+		// It changes nothing.
+		{"{}", "{}", "{}"}, {`{"a":null}`, "{}", `{"a":null}`}, {`{"a":1}`, `{"b":null}`, `{"a":1}`}, {`{"a":1.50}`, `{"a":15e-1}`, `{"a":1.5}`}, {"null", "null", "null"},
+		// What is taken away comes back as it was.
+		{`{"a":{"b":[1,{"c":null}],"d":1e9}}`, `{"a":null}`, "{}"}, {`{"a":{"b":null}}`, `{"a":{"b":null}}`, `{"a":{}}`}, {`{"a":null,"b":null}`, `{"a":null,"c":null}`, `{"b":null}`}, {`{"a":{"b":1,"c":2}}`, `{"a":{"b":null,"c":null}}`, `{"a":{}}`},
+		{`{"a":[1,2],"b":{"c":1}}`, `{"a":{"b":1},"b":[1]}`, `{"a":{"b":1},"b":[1]}`}, {`{"a":{"b":{"c":1}}}`, `{"a":{"b":{"c":{"d":null}}}}`, `{"a":{"b":{"c":{}}}}`},
+		{`{"":1,"~":{"/":2},"~1":3,"é\"\\\n":4}`, `{"":null,"~":{"/":null,"~0":0},"~1":{"":null},"é\"\\\n":[]}`, `{"~":{"~0":0},"~1":{},"é\"\\\n":[]}`},
+	} {
+		amends(t, widest, x.document, merge(x.p), x.want)
+	}
+	c := api.Config{Depth: 3, Exponent: 1}
+	amends(t, c, `{"a":{"b":1},"c":[[]]}`, merge(`{"a":1,"c":{"d":{}}}`), `{"a":1,"c":{"d":{}}}`)
+	amends(t, c, nested(3), merge("1e1"), "10")
+	amends(t, c, "0.1", merge(`{"a":{"b":{}}}`), `{"a":{"b":{}}}`)
+}
+
+func TestP6TheLastOfPatchAndMerge(t *testing.T) {
+	add, set := patch(one("add", "path", `"/a"`, "value", "1")), merge(`{"a":null,"b":2}`)
+	for _, x := range []struct {
+		script []api.Op
+		want   string
+	}{
+		{[]api.Op{add}, "{}"}, {[]api.Op{add, set}, `{"a":1}`}, {[]api.Op{set}, "{}"}, {[]api.Op{set, add}, `{"b":2}`}, {[]api.Op{set, set}, `{"b":2}`}, {[]api.Op{set, add, set}, `{"a":1,"b":2}`},
+		// One that changes nothing is the last one too.
+		{[]api.Op{add, merge("{}")}, `{"a":1}`}, {[]api.Op{set, merge(`{"a":null}`)}, `{"b":2}`}, {[]api.Op{set, patch("[]")}, `{"b":2}`},
+		// One that is refused is not, nor is another step.
+		{[]api.Op{add, set, merge("{")}, `{"a":1}`}, {[]api.Op{add, set, merge(nested(21))}, `{"a":1}`}, {[]api.Op{add, set, patch(one("remove", "path", `"/a"`))}, `{"a":1}`}, {[]api.Op{set, load("x"), diff("1"), mergeDiff("1"), mergeDiff(`{"a":null}`), dump, get("/b"), test("/b", "2")}, "{}"},
+	} {
+		script := append([]api.Op{load("{}")}, x.script...)
+		got := amend.Run(widest, append(script, invert))
+		back := got[len(script)]
+		if back.Code != api.OK {
+			t.Errorf("%+v: %+v", x.script, back)
+		}
+		if is := lastDump(append(script, patch(back.Text))); is != x.want {
+			t.Errorf("%+v: %s leads back to %s, want %s", x.script, back.Text, is, x.want)
+		}
+	}
+	none := refused(api.ErrNone)
+	expect(t, widest,
+		[]api.Op{load("{}"), merge("{"), invert, merge(nested(21)), invert, diff("1"), mergeDiff("1"), invert, set, load("[]"), invert, merge("{}"), load("]"), diff("[]"), mergeDiff("[]")},
+		told(""), refused(api.ErrText), none, refused(api.ErrDepth), none, told(`[{"op":"replace","path":"","value":1}]`), told("1"), none, told(""), told(""), none, told(""), refused(api.ErrText), told(`[{"op":"replace","path":"","value":[]}]`), told("[]"))
+}
+
+// The way back from a MERGE that made much less of the document is longer than
+// a patch may be.
+func TestP6LongWayBehindMerge(t *testing.T) {
+	script := append(wholeOf(api.MaxWhole), dump, merge(`{"x":{"y":null}}`), dump, invert)
+	got := amend.Run(widest, script)
+	if got[4] != told(`{"x":{}}`) || got[5].Code != api.OK || len(got[5].Text) <= api.MaxWhole {
+		t.Fatalf("%.60q, code %d, %d bytes", got[4].Text, got[5].Code, len(got[5].Text))
+	}
+	was := strings.TrimSuffix(strings.TrimPrefix(got[2].Text, `{"x":`), "}")
+	if want := one("replace", "path", `"/x"`, "value", was); got[5].Text != want {
+		t.Errorf("INVERT: %.100s…, want %.100s…", got[5].Text, want)
+	}
+	// A MERGE that is refused as too long leaves the way back to what it was.
+	expect(t, widest,
+		[]api.Op{load("1"), merge(`{"a":1}`), invert, merge(`{"b":"` + strings.Repeat("x", 1990) + `"}`), invert},
+		told(""), told(""), told(`[{"op":"replace","path":"","value":1}]`), told(""), told(`[{"op":"remove","path":"/b"}]`))
+	full := wholeOf(api.MaxWhole)
+	ahead := amend.Run(widest, append(full, invert))[2]
+	if got := amend.Run(widest, append(full, merge(`{"y":1}`), invert)); got[2] != refused(api.ErrLong) || got[3] != ahead {
+		t.Errorf("behind a MERGE that is refused: %+v", got[2:])
+	}
+}
+
 func TestP6UnnamedFields(t *testing.T) {
 	got := amend.Run(widest, []api.Op{load("[]"), patch(one("add", "path", `"/0"`, "value", "1")), invert, {Kind: api.Invert, S: "[", T: "~"}})
 	if got[2].Code != api.OK || got[3] != got[2] {

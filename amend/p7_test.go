@@ -79,13 +79,10 @@ func TestP7Merge(t *testing.T) {
 	}
 }
 
-func TestP7MergeReading(t *testing.T) {
-	c := api.Config{Depth: 2, Exponent: 2}
+func TestP7Reading(t *testing.T) {
+	c := narrow
 	long := strings.Repeat(" ", 1998)
-	for s, e := range map[string]api.Errno{
-		long + " {}": api.ErrLong, strings.Repeat("x", 2001): api.ErrLong, "": api.ErrText, "{": api.ErrText, "{a:1}": api.ErrText, `{"a":1,}`: api.ErrText, `{"a":1,"\u0061":[[1e3]]}`: api.ErrTwice,
-		`{"a":[[1e3]]}`: api.ErrDepth, `{"a":{"b":1}}`: api.ErrDepth, `{"a":{"b":null}}`: api.ErrDepth, nested(3): api.ErrDepth, `{"a":1e3}`: api.ErrNumber, "0.001": api.ErrNumber,
-	} {
+	for s, e := range wrongTexts() {
 		mergeRefused(t, c, `{"a":1}`, s, e)
 		expect(t, c, []api.Op{mergeDiff(s), load(`{"a":1}`), mergeDiff(s), dump}, refused(api.ErrNone), told(""), refused(e), told(`{"a":1}`))
 	}
