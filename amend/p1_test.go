@@ -39,6 +39,7 @@ func TestP1OddInputs(t *testing.T) {
 		strings.Repeat("/", 5000), "/a/" + strings.Repeat("9", 5000), "/a/0" + strings.Repeat("0", 5000), "/a/-1", "/a/-9223372036854775808", "/~", "/\xff", strings.Repeat("/a/0", 500),
 		"[]", "[[]]", "[{}]", "[null]", `[{"op":"add","path":"/a/-","value":{"a":[]}}]`, `[{"op":"remove","path":""}]`, `[{"op":"move","from":"","path":"/a"}]`, `[{"op":"copy","from":"/a/9","path":"/a/-"}]`,
 		`[{"op":"add","path":"/a/9223372036854775808","value":1}]`, `[{"op":"add","path":"/a/-1","value":1}]`, `[{"op":"remove","path":"/a/-"}]`, `[{"op":null,"path":null,"from":null,"value":null}]`,
+		"{}", `{"a":null}`, `{"a":[]}`, `{"a":{"a":null}}`, `{"b":{"c":{"d":null}},"a":[null,[2]]}`, `{"a":[` + strings.Repeat("1,", 990) + "1]}", `{"a":` + nested(19) + "}",
 		"[" + strings.Repeat(`{"op":"copy","from":"","path":"/a/-"},`, 50) + `{"op":"test","path":"","value":1}]`,
 		"[" + strings.Repeat(`{"op":"move","from":"/a/0","path":"/a"},{"op":"copy","from":"","path":""},`, 20) + `{"op":"remove","path":"/a"}]`,
 	}

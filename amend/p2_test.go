@@ -18,7 +18,10 @@ func variety() []api.Op {
 		{Kind: 77, S: "1", T: "2"}, load(`{"a":1,"a":2}`), load(nested(21)), dump, get("/b"), get("/b/2/c"), get("/b/x"), get("/~"), get("/e/0"),
 		test("/b", `[1,2.5,{"c":"A"}]`), test("", "1"), test("/d", "{"), test("d", "{}"), load("1e401"), invert,
 		patch(`[{"op":"add","path":"/e/-","value":{"z":1,"y":2,"x":[3]}},{"op":"move","from":"/b","path":"/d/b"},{"op":"copy","from":"/e","path":"/h"},{"op":"remove","path":"/a"}]`), dump, invert,
-		patch(`[{"op":"replace","path":"/h","value":0},{"op":"test","path":"/h","value":1}]`), patch(`[{"op":"add"}]`), patch("[{}"), dump, invert, patch("[]"), invert, load(`"x"`), get(""), dump, invert, dump,
+		patch(`[{"op":"replace","path":"/h","value":0},{"op":"test","path":"/h","value":1}]`), patch(`[{"op":"add"}]`), patch("[{}"), dump, invert, patch("[]"), invert,
+		diff(`{"e":[{"x":[3],"z":1}],"d":{"b":[2.5,1,{"c":"B"}]},"h":[],"i":0}`), diff("[1"), mergeDiff(`{"e":0,"h":{"a":1,"b":{}},"i":{"k":[null]},"j":2}`), mergeDiff(`{"e":0,"h":{"a":1,"b":null},"i":null}`), mergeDiff("[null]"), dump, invert,
+		merge(`{"d":{"b":null,"x":[null],"y":{"z":null}},"e":{"a":1,"b":2,"c":null},"f":null,"q":null,"r":{"s":{}}}`), dump, invert, diff("{}"), mergeDiff("{}"), merge(`{"a":1,"a":2}`), merge("1e401"), invert, merge("{}"), invert,
+		load(`"x"`), get(""), diff(`"y"`), mergeDiff(`{"a":null}`), merge(`{"a":null,"b":1}`), dump, invert, dump,
 	}
 }
 
@@ -74,7 +77,7 @@ func TestP2NewMemory(t *testing.T) {
 		t.Errorf("two runs share their answers: %+v", second)
 	}
 	for _, s := range []string{`"abcdefgh"`, "12345678", "true", "null"} {
-		for _, ask := range []api.Op{dump, get("")} {
+		for _, ask := range []api.Op{dump, get(""), mergeDiff(s)} {
 			got := amend.Run(widest, []api.Op{load(s), ask})[1].Text
 			if got != s {
 				t.Fatalf("got %q, want %q", got, s)

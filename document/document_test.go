@@ -1,6 +1,7 @@
 package document_test
 
 import (
+	"strings"
 	"testing"
 
 	"amend/api"
@@ -10,7 +11,8 @@ import (
 	"amend/value"
 )
 
-// P5 and P6: what these tests hold of a document holds of every PATCH.
+// P5, P6 and P7: what these tests hold of a document holds of every PATCH and
+// MERGE.
 
 func valueOf(t *testing.T, s string) *value.Value {
 	t.Helper()
@@ -104,4 +106,66 @@ func TestPatchTakenBack(t *testing.T) {
 			t.Errorf("%d operations taken back: got %s", n, got)
 		}
 	}
+}
+
+// merges merges, and tells what the document is behind it, and what leads back.
+func merges(t *testing.T, d *document.Document, p, want, back string) {
+	t.Helper()
+	if code := d.Merge(valueOf(t, p)); code != api.OK {
+		t.Fatalf("%s: code %d", p, code)
+	}
+	if got := text.Canonical(d.Whole()); got != want {
+		t.Fatalf("%s: got %s, want %s", p, got, want)
+	}
+	if inverse, ok := d.Inverse(); !ok || patch.Text(inverse) != back {
+		t.Errorf("%s: %s leads back, want %s", p, patch.Text(inverse), back)
+	}
+}
+
+func TestMerge(t *testing.T) {
+	d := document.New(valueOf(t, `{"a":1,"b":{"c":2,"~":[3]}}`))
+	merges(t, d, `{"a":null,"b":{"~":4,"d":{"e":null}},"f":[null],"g":null}`, `{"b":{"c":2,"d":{},"~":4},"f":[null]}`,
+		`[{"op":"remove","path":"/f"},{"op":"replace","path":"/b/~0","value":[3]},{"op":"remove","path":"/b/d"},{"op":"add","path":"/a","value":1}]`)
+	merges(t, d, `{"x":null,"b":{}}`, `{"b":{"c":2,"d":{},"~":4},"f":[null]}`, "[]")
+	merges(t, d, `{"b":[{"c":null}],"f":{"g":{"h":null}}}`, `{"b":[{"c":null}],"f":{"g":{}}}`,
+		`[{"op":"replace","path":"/f","value":[null]},{"op":"replace","path":"/b","value":{"c":2,"d":{},"~":4}}]`)
+	merges(t, d, "null", "null", `[{"op":"replace","path":"","value":{"b":[{"c":null}],"f":{"g":{}}}}]`)
+	merges(t, d, `{"a":null}`, "{}", `[{"op":"replace","path":"","value":null}]`)
+}
+
+func TestMergeSharesNothing(t *testing.T) {
+	const told = `{"a":{"b":[1]},"c":[{"d":2}],"e":{"f":{"g":[]}}}`
+	p := valueOf(t, told)
+	for _, whole := range []string{"{}", "0", `{"a":{},"c":[],"e":{"f":0}}`} {
+		d := document.New(valueOf(t, whole))
+		if code := d.Merge(p); code != api.OK {
+			t.Fatalf("%s: code %d", whole, code)
+		}
+		does(t, d, `[{"op":"add","path":"/a/x","value":0},{"op":"add","path":"/a/b/-","value":9},{"op":"remove","path":"/c/0/d"},{"op":"replace","path":"/e/f/g","value":{}},{"op":"add","path":"/e/f/g/h","value":1}]`,
+			`{"a":{"b":[1,9],"x":0},"c":[{}],"e":{"f":{"g":{"h":1}}}}`)
+		if got := text.Canonical(p); got != told {
+			t.Errorf("%s: the merge patch became %s", whole, got)
+		}
+	}
+}
+
+func TestMergeTakenBack(t *testing.T) {
+	const whole = `{"a":[1],"b":{"c":2},"d":null}`
+	long := strings.Repeat("x", api.MaxWhole)
+	d := document.New(valueOf(t, whole))
+	does(t, d, `[{"op":"remove","path":"/d"},{"op":"add","path":"/d","value":null}]`, whole)
+	p := &value.Value{Kind: value.Object, Members: map[string]*value.Value{
+		"a": valueOf(t, "null"), "b": valueOf(t, `{"c":{"e":1},"f":[]}`), "d": {Kind: value.String, Text: long}, "g": valueOf(t, "0"),
+	}}
+	if code := d.Merge(p); code != api.ErrLong {
+		t.Fatalf("code %d", code)
+	}
+	if got := text.Canonical(d.Whole()); got != whole {
+		t.Errorf("it became %.100s", got)
+	}
+	if inverse, ok := d.Inverse(); !ok || len(inverse) != 2 {
+		t.Errorf("%+v leads back", inverse)
+	}
+	// What was taken back is in no journal any more.
+	merges(t, d, `{"b":{"c":3}}`, `{"a":[1],"b":{"c":3},"d":null}`, `[{"op":"replace","path":"/b/c","value":2}]`)
 }

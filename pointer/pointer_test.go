@@ -99,3 +99,17 @@ func TestFind(t *testing.T) {
 		}
 	}
 }
+
+// P6 and P8: the paths of what INVERT and DIFF tell are made so.
+func TestTo(t *testing.T) {
+	p := pointer.Pointer(nil).To("a/b").To("").To("~").To("0")
+	if want := (pointer.Pointer{"a/b", "", "~", "0"}); !slices.Equal(p, want) || p.String() != "/a~1b//~0/0" {
+		t.Errorf("got %q, %s", p, p.String())
+	}
+	room := append(make(pointer.Pointer, 0, 8), "a")
+	first := room.To("b")
+	second := room.To("c")
+	if !slices.Equal(first, []string{"a", "b"}) || !slices.Equal(second, []string{"a", "c"}) || !slices.Equal(room[:2], []string{"a", ""}) {
+		t.Errorf("pointers that go on from one share room: %q, %q, %q", first, second, room[:2])
+	}
+}
